@@ -1,0 +1,1 @@
+"""Rain barrels that overflow into each other."""

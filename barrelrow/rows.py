@@ -147,9 +147,10 @@ def check_barrels(barrels, ticks):
 
 def place_of(row, name):
     """Return the place of a barrel in a row, from 0; raise UnknownBarrel if it has none."""
-    if name not in row:
-        raise UnknownBarrel(name=name)
-    return row.names.index(name)
+    for place, known in enumerate(row.names):
+        if known == name:
+            return place
+    raise UnknownBarrel(name=name)
 
 
 def barrels_down_to(row, name):

@@ -5,7 +5,8 @@ from math import lcm
 from barrelrow.errors import InvalidRow
 from barrelrow.rows import MAX_CAPACITY, Row, barrels_down_to, check_number, is_barrel
 from barrelrow.rows import long_run, place_of, settled_round
-from barrelrow.water import pass_ticks
+from barrelrow.search import first_number
+from barrelrow.water import for_ticks, pass_ticks
 
 MAX_GOAL = 10 ** 12
 LAST_COMPARED = 2000
@@ -41,16 +42,8 @@ def least_capacity(row, name, goal):
     upper = Row(row.rain, *barrels)
     if missed_with(upper, name, MAX_CAPACITY) > goal:
         return None
-    low = 0
-    high = MAX_CAPACITY
     # With more capacity, never more is missed.
-    while low < high:
-        middle = (low + high) // 2
-        if missed_with(upper, name, middle) <= goal:
-            high = middle
-        else:
-            low = middle + 1
-    return low
+    return first_number(0, MAX_CAPACITY, lambda capacity: missed_with(upper, name, capacity) <= goal)
 
 
 def missed_with(row, name, capacity):
@@ -101,8 +94,7 @@ def last_to_compare(one, other):
 def levels_of(row, name, ticks):
     """Return the levels of a barrel after the first ticks: as many as wanted, or some more."""
     rounds = ticks // len(row.rain) + 1
-    upper = barrels_down_to(row, name)
     # All these rounds pass as if they were one long round.
-    barrels = [(known, capacity, roof, draws * rounds) for known, capacity, roof, draws in upper]
+    barrels = for_ticks(barrels_down_to(row, name), ticks)
     passages = pass_ticks(row.rain * rounds, barrels, [0] * len(barrels))
     return passages[-1].after

@@ -2,6 +2,7 @@
 
 from barrelrow.errors import Contradiction
 from barrelrow.rows import LAST_TICK, MAX_FALL, check_number, place_of
+from barrelrow.search import first_number
 
 
 class RainObserver:
@@ -52,12 +53,5 @@ class RainObserver:
 
     def _first_with(self, name, tick, level):
         """Return the least possible amount with at least this level, or one more than all."""
-        low = self._least
-        high = self._greatest + 1
-        while low < high:
-            middle = (low + high) // 2
-            if self._level_with(middle, name, tick) >= level:
-                high = middle
-            else:
-                low = middle + 1
-        return low
+        behind = self._greatest + 1
+        return first_number(self._least, behind, lambda amount: self._level_with(amount, name, tick) >= level)

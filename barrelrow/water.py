@@ -68,6 +68,13 @@ def pass_ticks(rain, barrels, levels):
     return passages
 
 
+def for_ticks(barrels, ticks):
+    """Return the barrels with their wishes for so many ticks, or some more, instead of one round."""
+    return [
+        (name, capacity, roof, draws * (ticks // len(draws) + 1)) for name, capacity, roof, draws in barrels
+    ]
+
+
 def walk(rain, barrels, rounds):
     """Let so many rounds pass, from empty barrels on.
 

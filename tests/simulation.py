@@ -28,16 +28,23 @@ def empty(barrels):
     return {barrel[0]: 0 for barrel in barrels}
 
 
-def run(rain, barrels, ticks):
-    """Return the levels after each of the first ticks, and the flows in each, as lists of dicts."""
+def play(falls, barrels, length):
+    """Return the levels after each tick, and the flows in each, as lists of dicts.
+
+    So much rain falls in each tick; the wishes come again after `length` ticks.
+    """
     levels = empty(barrels)
     all_levels = []
     all_flows = []
-    for tick in range(ticks):
-        at = tick % len(rain)
-        all_flows.append(one_tick(levels, rain[at], at, barrels))
+    for tick, fall in enumerate(falls):
+        all_flows.append(one_tick(levels, fall, tick % length, barrels))
         all_levels.append(dict(levels))
     return all_levels, all_flows
+
+
+def run(rain, barrels, ticks):
+    """Return what `play` returns for so many ticks with the rain of the rounds."""
+    return play([rain[tick % len(rain)] for tick in range(ticks)], barrels, len(rain))
 
 
 def add_flows(barrels, all_flows):

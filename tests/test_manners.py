@@ -5,9 +5,13 @@ import random
 import unittest
 
 from barrelrow.choosing import best_place, change_without, first_difference, held_back, least_capacity
+from barrelrow.codes import decode_row, encode_row
 from barrelrow.errors import Contradiction, InvalidNumber, RowError
 from barrelrow.hidden import RainObserver
+from barrelrow.live import LiveRow
+from barrelrow.notes import Daybook, chart, format_row, parse_row
 from barrelrow.rows import Row, first_missed, long_run, lost, settled_round, totals
+from barrelrow.weathers import SpellWeather, SteadyWeather, StormWeather, driest_tick, outcome, played
 from tests.samples import FAR, example, slow_rows, small_row
 
 
@@ -27,6 +31,25 @@ def questions(row, other):
         lambda: (row - name).barrels, lambda: row[name], lambda: len(row), lambda: name in row,
         lambda: (row + Row.equal(row.rain, 3, "plus")).barrels, lambda: (row + row).barrels,
         lambda: row == other, lambda: RainObserver(row, 0).see(name, 4, 2), lambda: RainObserver(row, 99),
+    ] + questions_of_part_two(row, name)
+
+
+def questions_of_part_two(row, name):
+    weather = SpellWeather(3, 2, 2) + StormWeather(9, 1, 4)
+    daybook = Daybook(row, f"rain 4\nrain ?\nlevel {name} 3\nrain 1")
+    text = format_row(row)
+    code = encode_row(row)
+    return [
+        lambda: weather.fall_in(FAR), lambda: weather.fall_in(-1), lambda: (weather + weather).fall_in(5),
+        lambda: list(played(row, weather, 9)), lambda: outcome(row, weather, 9), lambda: driest_tick(row, weather, 9),
+        lambda: outcome(row, weather, -1), lambda: SteadyWeather(-1),
+        lambda: LiveRow.replay(row, ("pour", 5), ("lock", name), ("pour", 5)).levels,
+        lambda: LiveRow.replay(row, ("pour", 5), ("scoop", name)), lambda: LiveRow(row).scoop("no", 0),
+        lambda: format_row(row), lambda: parse_row(text).barrels, lambda: parse_row(text + " "),
+        lambda: chart(row, FAR), lambda: chart(row, -1), lambda: daybook.unknown_range(),
+        lambda: daybook.levels_after(3), lambda: daybook.levels_after(-1), lambda: daybook.tick_count,
+        lambda: Daybook(row, "rain"), lambda: encode_row(row), lambda: decode_row(code).barrels,
+        lambda: decode_row(code + [1]),
     ]
 
 
@@ -69,7 +92,10 @@ class Answers(unittest.TestCase):
 class Values(unittest.TestCase):
     def test_returned_dicts_may_be_modified(self):
         row = Row((9, 0), ("up", 5, 1, (0, 5)), ("low", 4, 0, (0, 4)))
-        calls = (lambda: totals(row, 7), lambda: long_run(row), lambda: change_without(row, "up"))
+        daybook = Daybook(row, "rain 9\nrain ?")
+        live = LiveRow.replay(row, ("pour", 9))
+        calls = (lambda: totals(row, 7), lambda: long_run(row), lambda: change_without(row, "up"),
+                 lambda: daybook.levels_after(3), lambda: live.levels)
         for call in calls:
             kept = dict(call())
             self.assertTrue(kept)

@@ -4,7 +4,6 @@ import random
 import unittest
 from unittest import mock
 
-from barrelrow import errors
 from barrelrow.errors import InvalidNumber, InvalidRow, OtherRain, UnknownBarrel
 from barrelrow.rows import Row
 from tests.samples import NAMES, example, small_barrels, small_rain, small_row
@@ -370,27 +369,6 @@ class RowChanges(unittest.TestCase):
         with self.assertRaises(UnknownBarrel) as caught:
             example().with_capacity("mid", -1)
         self.assertEqual(caught.exception.name, "mid")
-
-
-class ErrorClasses(unittest.TestCase):
-    def test_family(self):
-        kinds = [errors.InvalidRow, errors.UnknownBarrel, errors.OtherRain, errors.InvalidNumber, errors.Contradiction]
-        self.assertTrue(issubclass(errors.RowError, ValueError))
-        for kind in kinds:
-            self.assertTrue(issubclass(kind, errors.RowError))
-            for other in kinds:
-                self.assertEqual(issubclass(kind, other), kind is other)
-
-    def test_attributes_are_given_by_keyword(self):
-        fault = errors.InvalidRow(part="rain", index=-1)
-        self.assertEqual((fault.part, fault.index), ("rain", -1))
-        self.assertEqual(errors.UnknownBarrel(name="x").name, "x")
-        with self.assertRaises(errors.RowError):
-            raise errors.OtherRain()
-        with self.assertRaises(errors.RowError):
-            raise errors.InvalidNumber()
-        with self.assertRaises(errors.RowError):
-            raise errors.Contradiction()
 
 
 if __name__ == "__main__":
